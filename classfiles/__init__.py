@@ -1,0 +1,1 @@
+"""Classhall: class files held strictly."""
