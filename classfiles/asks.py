@@ -3,8 +3,19 @@
 Each is a function of the file, the call's whole numbers and its rows; it answers a list of numbers.
 """
 
+from classfiles.links import names_constant
 from classfiles.refusals import NotThere
+from classfiles.spelling import argument_slots
 from classfiles.tags import DOUBLE, FLOATING, INTEGER, LONG, TEXT
+from classfiles.telling import can_be_told, tell
+
+# What a call's first number, what, asks for.
+OF_FIELD = 1
+OF_METHOD = 2
+OF_FILE = 3
+OF_CODE = 4
+# The tags of the constants that have one or two small numbers.
+PAIRED = (7, 8, 9, 10, 11, 12, 15, 16, 18)
 
 
 def pick(values, number):
@@ -19,6 +30,32 @@ def pick_constant(held, number, tags):
     if held.pool.tag_of(number) not in tags:
         raise NotThere()
     return held.pool.constants[number]
+
+
+def pick_members(held, what):
+    """Answers the fields or the methods, whichever are asked for."""
+    if what == OF_FIELD:
+        return held.fields
+    if what == OF_METHOD:
+        return held.methods
+    raise NotThere()
+
+
+def pick_body(held, number):
+    """Answers the inside of Code of the method with this number."""
+    body = pick(held.methods, number).body
+    if body is None:
+        raise NotThere()
+    return body
+
+
+def pick_attributes(held, what, number):
+    """Answers the attributes of what is asked for; the file is but one, whatever the number."""
+    if what == OF_FILE:
+        return held.attributes
+    if what == OF_CODE:
+        return pick_body(held, number).attributes
+    return pick(pick_members(held, what), number).attributes
 
 
 def answer_head(held, numbers, rows):
@@ -58,6 +95,61 @@ def answer_number(held, numbers, rows):
     return [0, constant.first]
 
 
+def answer_pair(held, numbers, rows):
+    """Call 9, pair."""
+    constant = pick_constant(held, numbers[0], PAIRED)
+    return [0, constant.first, constant.second]
+
+
+def answer_member(held, numbers, rows):
+    """Call 10, member."""
+    member = pick(pick_members(held, numbers[0]), numbers[1])
+    return [0, member.flags, member.name, member.descriptor, len(member.attributes)]
+
+
+def answer_attr(held, numbers, rows):
+    """Call 11, attr."""
+    attribute = pick(pick_attributes(held, numbers[0], numbers[1]), numbers[2])
+    return [0, attribute.name, attribute.start, attribute.size]
+
+
+def answer_code(held, numbers, rows):
+    """Call 12, code."""
+    body = pick_body(held, numbers[0])
+    return [0, body.stack, body.variables, body.start, body.size]
+
+
+def answer_find(held, numbers, rows):
+    """Call 13, find."""
+    for number, member in enumerate(pick_members(held, numbers[0])):
+        if held.pool.row(member.name) == rows[0] and held.pool.row(member.descriptor) == rows[1]:
+            return [number]
+    raise NotThere()
+
+
+def answer_slots(held, numbers, rows):
+    """Call 14, slots."""
+    method = pick(held.methods, numbers[0])
+    return [argument_slots(held.pool.row(method.descriptor))]
+
+
+def answer_uses(held, numbers, rows):
+    """Call 15, uses."""
+    named = numbers[0]
+    if held.pool.tag_of(named) == 0:
+        raise NotThere()
+    users = [number for number, constant in enumerate(held.pool.constants) if names_constant(constant, named)]
+    return [len(users)] + users
+
+
+def answer_told(held, numbers, rows):
+    """Call 16, told."""
+    if not can_be_told(held.pool, numbers[0]):
+        raise NotThere()
+    row = tell(held.pool, numbers[0])
+    return [len(row)] + row
+
+
 # By a call's number.
 ANSWERS = {
     3: answer_head,
@@ -66,6 +158,14 @@ ANSWERS = {
     6: answer_tag,
     7: answer_text,
     8: answer_number,
+    9: answer_pair,
+    10: answer_member,
+    11: answer_attr,
+    12: answer_code,
+    13: answer_find,
+    14: answer_slots,
+    15: answer_uses,
+    16: answer_told,
 }
 
 

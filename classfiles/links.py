@@ -17,6 +17,18 @@ HANDLED = {
     8: (10,),
     9: (11,),
 }
+# The tags whose first or second number is a constant's: a handle's kind and a call site's first number are none.
+FIRST_NAMES = (7, 8, 9, 10, 11, 12, 16)
+SECOND_NAMES = (9, 10, 11, 12, 15, 18)
+
+
+def names_constant(constant, number):
+    """Tells whether the constant, None where there is none, names the one with this number."""
+    if constant is None:
+        return False
+    if constant.tag in FIRST_NAMES and constant.first == number:
+        return True
+    return constant.tag in SECOND_NAMES and constant.second == number
 
 
 def check_class(pool, constant):

@@ -2,39 +2,12 @@
 
 import unittest
 
+from asking import COUNT, FACE, HEAD, MOST, NUMBER, TAG, TEXT, asked, judge, read, split
 from classfiles.desk import answers
 from maker import Maker, full_maker
 from small import SMALL
 
-HEAD, COUNT, FACE, TAG, TEXT, NUMBER = 3, 4, 5, 6, 7, 8
 ASKS = ([HEAD], [COUNT, 0], [COUNT, 4], [FACE, 0], [TAG, 1], [TAG, 0], [TEXT, 1], [NUMBER, 1])
-MOST = 4294967295
-
-
-def read(content):
-    return [1, len(content)] + content
-
-
-def judge(content):
-    return [2, len(content)] + content
-
-
-def split(given):
-    """The answers, each a list of its own."""
-    lists = []
-    at = 0
-    while at < len(given):
-        lists.append(given[at + 1:at + 1 + given[at]])
-        at += 1 + given[at]
-    return lists
-
-
-def asked(content, *calls):
-    """What the calls are answered behind a read."""
-    given = split(answers(read(content) + sum(calls, [])))
-    if given[0] != [0]:
-        raise AssertionError(given[0])
-    return given[1:]
 
 
 class NothingHeld(unittest.TestCase):
